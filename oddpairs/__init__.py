@@ -1,0 +1,1 @@
+"""Oddpairs: places paired with neighbours, as many as can be."""
