@@ -10,6 +10,14 @@ HUGE = 10 ** 5000
 # What is no whole number, whatever the net. HUGE is one, but no number of a net.
 NO_NUMBERS = [True, False, None, "0", "", 0.0, 1.0, [0], (0,), {}, b"0"]
 
+# What is no size of a net.
+NO_SIZES = [0, -1, -40, 41, 100, HUGE, -HUGE, 40.0, 2.5, "4", [4], (4,)] + NO_NUMBERS
+
+
+def no_places(size):
+    """Things that are no places of a net of that size."""
+    return [size, size + 1, 41, 100, -1, -size, HUGE, -HUGE, (0, 1), [], 2.0] + NO_NUMBERS
+
 
 def all_ties(size):
     """All ties that a net of that size can have, rising."""
@@ -43,6 +51,18 @@ def every_pairing(ties):
 def most_by_trying(ties):
     """By trying all: the number of pairs of a greatest pairing."""
     return max(len(pairs) for pairs in every_pairing(ties))
+
+
+def greatest_by_trying(ties):
+    """By trying all: every greatest pairing, each rising."""
+    every = [sorted(pairs) for pairs in every_pairing(ties)]
+    many = max(len(pairs) for pairs in every)
+    return [pairs for pairs in every if len(pairs) == many]
+
+
+def places_in(pairs):
+    """The places that are in these pairs."""
+    return {place for pair in pairs for place in pair}
 
 
 PRIME = 2 ** 61 - 1
@@ -180,6 +200,49 @@ def larger_nets():
         for part in (3, 6, 9, 15, 40):
             every.append((size, some_ties(chance, size, part)))
     return every
+
+
+def dense_nets():
+    """Nets that have nearly all the ties that there can be, or all but those of a few places."""
+    chance = random.Random(88)
+    every = [(size, some_ties(chance, size, part)) for size in (11, 20, 39, 40) for part in (80, 95, 98)]
+    # All ties but those within a set of places: with more than half of them in it, many stay alone.
+    for size, many in ((10, 7), (21, 11), (39, 25), (40, 20), (40, 21), (40, 36)):
+        every.append((size, [(one, other) for one, other in all_ties(size) if one < size - many]))
+    return every
+
+
+def fenced_net(many, lengths):
+    """A net with a known fence, its first places: so many places that are tied to all others.
+
+    Behind them stand wholes of these lengths, each with all its ties and none
+    to another whole. There must be more wholes of odd length than places in the fence.
+    """
+    size = many + sum(lengths)
+    ties = [(one, other) for one, other in all_ties(size) if one < many]
+    first = many
+    for length in lengths:
+        ties += combinations(range(first, first + length), 2)
+        first += length
+    return size, sorted(ties)
+
+
+def fenced_nets():
+    """Rows of a net, its fence, and how many places a greatest pairing of it leaves alone."""
+    shapes = [(1, [1, 1]), (1, [3, 1, 5]), (1, [2, 1, 4, 1]), (2, [3, 3, 3]), (2, [6, 1, 3, 8, 5, 7, 2]),
+              (3, [1, 1, 1, 1, 5]), (4, [7, 5, 3, 5, 1, 1, 1, 1, 9]), (1, [13, 13, 13]), (5, [5] * 7),
+              (6, [1] * 34), (9, [3] * 10 + [1]), (10, [1] * 11 + [18])]
+    every = []
+    for many, lengths in shapes:
+        odd = len([length for length in lengths if length % 2])
+        every.append((fenced_net(many, lengths), list(range(many)), odd - many))
+    return every
+
+
+def two_sided(chance, size, part):
+    """Ties of a net with two sides taken by chance, each there by that part of a hundred."""
+    side = [chance.randrange(2) for _ in range(size)]
+    return [(one, other) for one, other in some_ties(chance, size, part) if side[one] != side[other]]
 
 
 def small_nets(sizes, many):

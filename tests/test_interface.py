@@ -6,7 +6,7 @@ import pathlib
 import unittest
 
 import oddpairs
-from oddpairs import errors, nets, pairings, ways
+from oddpairs import errors, fences, keeping, nets, notes, pairings, sides, ways
 
 FOLDER = pathlib.Path(oddpairs.__file__).parent
 
@@ -17,6 +17,15 @@ FUNCTIONS = {
     "turned": (pairings, ["net", "pairs", "way"]),
     "better": (ways, ["net", "pairs"]),
     "most": (ways, ["net"]),
+    "fence": (fences, ["net"]),
+    "leaving": (fences, ["net", "place"]),
+    "having": (fences, ["net", "place"]),
+    "sort_of": (fences, ["net", "place"]),
+    "sides": (sides, ["net"]),
+    "odd_ring": (sides, ["net"]),
+    "cover": (sides, ["net"]),
+    "shown": (notes, ["net"]),
+    "read": (notes, ["line"]),
 }
 
 CLASSES = ("NetError", "BadNet", "NoPlace", "BadPairs", "BadWay", "TieThere", "NoTie", "OddRing")
@@ -51,6 +60,14 @@ class InterfaceTest(unittest.TestCase):
         self.assertEqual(arguments(nets.Net.__dict__["ties"]), ["self"])
         self.assertEqual(arguments(nets.Net.__dict__["beside"]), ["self", "place"])
 
+    def test_kept_has_its_methods_itself(self):
+        self.assertEqual(keeping.Kept.__module__, "oddpairs.keeping")
+        self.assertEqual(arguments(keeping.Kept), ["size"])
+        self.assertEqual(arguments(keeping.Kept.__dict__["put"]), ["self", "one", "other"])
+        self.assertEqual(arguments(keeping.Kept.__dict__["cut"]), ["self", "one", "other"])
+        self.assertEqual(arguments(keeping.Kept.__dict__["net"]), ["self"])
+        self.assertEqual(arguments(keeping.Kept.__dict__["pairs"]), ["self"])
+
     def test_arguments_may_be_told_by_their_names(self):
         net = nets.Net(size=4, ties=[(0, 1), (2, 3)])
         self.assertEqual(net.beside(place=2), [3])
@@ -60,6 +77,18 @@ class InterfaceTest(unittest.TestCase):
         self.assertEqual(pairings.turned(net=net, pairs=[], way=[3, 2]), [(2, 3)])
         self.assertIsNone(ways.better(net=net, pairs=[(0, 1), (2, 3)]))
         self.assertEqual(ways.most(net=net), [(0, 1), (2, 3)])
+        self.assertEqual(fences.fence(net=net), [])
+        self.assertIsNone(fences.leaving(net=net, place=1))
+        self.assertEqual(fences.having(net=net, place=1), [(0, 1), (2, 3)])
+        self.assertEqual(fences.sort_of(net=net, place=1), "bound")
+        self.assertEqual(sides.sides(net=net), [0, 1, 0, 1])
+        self.assertIsNone(sides.odd_ring(net=net))
+        self.assertEqual(len(sides.cover(net=net)), 2)
+        self.assertEqual(notes.shown(net=net), "4: 0-1 2-3")
+        self.assertEqual(notes.read(line="4: 0-1 2-3").ties(), [(0, 1), (2, 3)])
+        kept = keeping.Kept(size=4)
+        self.assertEqual(kept.put(one=1, other=0), 1)
+        self.assertEqual(kept.cut(one=0, other=1), -1)
 
 
 class NothingFromOutsideTest(unittest.TestCase):

@@ -4,7 +4,7 @@ import copy
 import random
 import unittest
 
-from helpers import HUGE, NO_NUMBERS, all_ties, larger_nets, net_of, refusal, small_nets
+from helpers import HUGE, NO_NUMBERS, NO_SIZES, all_ties, larger_nets, net_of, refusal, small_nets
 
 from oddpairs.errors import BadNet, NoPlace
 from oddpairs.nets import Net, parts
@@ -67,7 +67,7 @@ class BadNetTest(unittest.TestCase):
         self.assertIs(refusal(Net, size, ties), BadNet)
 
     def test_sizes_that_are_none(self):
-        for size in [0, -1, -40, 41, 100, HUGE, -HUGE, 40.0, 2.5, "4", [4], (4,)] + NO_NUMBERS:
+        for size in NO_SIZES:
             with self.subTest(str(type(size))):
                 self.assert_bad(size, [])
 
